@@ -1,0 +1,1 @@
+"""Letters by short and long, read from a hand whose measure nobody knows."""
