@@ -1,16 +1,21 @@
-"""Which units fit a length: a mark is 1 or 3 of them, a gap 1, 3, or 7 and more."""
+"""Of which units a length may be 1, 3, or 7 and more, off by the slack at most."""
 
 
-def left_by_mark(units, length, slack):
-    return [unit for unit in units
-            if abs(length - unit) <= slack or abs(length - 3 * unit) <= slack]
+def least_unit(length, count, slack):
+    # A gap of 7 may also be longer, so for that no unit is too small.
+    if count == 7:
+        return 1
+    return (length - slack + count - 1) // count
 
 
-def left_by_gap(units, length, slack):
-    return [unit for unit in units
-            if abs(length - unit) <= slack or abs(length - 3 * unit) <= slack or length >= 7 * unit - slack]
+def greatest_unit(length, count, slack):
+    return (length + slack) // count
 
 
-def left_by_held_key(units, held, slack):
-    """The units left while the key is still down: the mark that goes on can only grow."""
-    return [unit for unit in units if held <= 3 * unit + slack]
+def count_by_now(gap, unit, slack):
+    """The least that a gap can come to by a unit, which is so long already and still goes on."""
+    if gap <= unit + slack:
+        return 1
+    if gap <= 3 * unit + slack:
+        return 3
+    return 7

@@ -8,8 +8,11 @@ import handkey.hand
 from handkey.hand import answers
 
 
-LINE = [0, 10, 20, 3, 1, 100, 1, 100, 2, 100, 2, 112, 2, 112, 1, 148, 0, 0, 0, 0, 2, 160]
-TOLD = [1, 0, 1, 11, 1, -16, 1, -22, 1, 6, 1, -16, 1, 3, 1, -22, 1, 3]
+# All six calls, some of them refused.
+LINE = [0, 10, 20, 3, 4, 5, 1, 100, 3, 99, 1, 100, 2, 100, 3, 105, 2, 112, 2, 112, 3, 147, 4, 1, 148, 4, 0, 0, 0, 0,
+        2, 160, 5, 3, 300, 4, 3, 4294967295]
+TOLD = [1, 0, 1, 0, 3, 11, 10, 20, 1, 11, 1, -22, 1, -16, 1, -22, 1, 11, 1, 6, 1, -16, 1, 6, 2, 1, 69, 1, 3, 2, 1, 69,
+        1, -22, 1, 3, 3, 3, 11, 13, 1, 3, 4, 3, 69, 69, 32, 1, -22]
 
 
 class Answers(unittest.TestCase):
@@ -63,6 +66,40 @@ class Answers(unittest.TestCase):
         with contextlib.redirect_stdout(out), contextlib.redirect_stderr(err):
             answers(LINE)
         self.assertEqual((out.getvalue(), err.getvalue()), ("", ""))
+
+    def test_numbers_behind_each_call(self):
+        self.assertEqual(answers([0, 1, 1, 0, 3, 0, 4, 5, 4, 4, 5, 5]),
+                         [1, 0, 1, 1, 1, 0, 3, 1, 1, 1, 1, 0, 1, 0, 3, 1, 1, 1, 3, 1, 1, 1])
+
+    def test_read_tells_so_many_bytes(self):
+        self.assertEqual(answers([0, 10, 10, 3, 1, 0, 2, 10, 4, 3, 24, 4, 3, 44, 4]),
+                         [1, 0, 1, 1, 1, 1, 1, 0, 1, 1, 2, 1, 69, 1, 1, 3, 2, 69, 32])
+
+    def test_a_refusal_is_its_number_alone(self):
+        self.assertEqual(answers([0, 10, 10, 3, 1, 0, 2, 20, 4, 5, 3, 19]), [1, 0, 1, 1, 1, 0, 1, -61, 3, 0, 0, 0, 1, -22])
+
+    def test_an_answered_row_changed_later_is_told_anew(self):
+        line = [0, 10, 10, 3, 1, 0, 2, 10, 3, 44, 4, 4, 3, 50, 4, 1, 80, 4]
+        told = answers(line)
+        self.assertEqual(told, [1, 0, 1, 1, 1, 1, 1, 1, 3, 2, 69, 32, 3, 2, 69, 32, 1, 1, 3, 2, 69, 32, 1, 1, 3, 2, 69, 32])
+        kept = list(told)
+        told.extend([5, 5])
+        self.assertEqual(answers(line), kept)
+
+    def test_most_calls_of_all_six(self):
+        # Each turn of it is 10 calls: a letter T, told, and begun again.
+        turn = [0, 10, 10, 3, 4, 5, 1, 0, 3, 20, 2, 30, 3, 44, 4, 3, 64, 4]
+        told = [1, 0, 1, 0, 3, 1, 10, 10, 1, 1, 1, 1, 1, 1, 1, 1, 2, 1, 84, 1, 1, 3, 2, 84, 32]
+        self.assertEqual(answers(turn * 110), told * 110)
+
+    def test_most_calls_of_read(self):
+        calls = [0, 10, 10, 3]
+        for place in range(274):
+            calls += [1, 60 * place, 2, 60 * place + 30, 3, 60 * place + 44, 4]
+        told = answers(calls)
+        self.assertEqual(told[:2], [1, 0])
+        self.assertEqual(told[-276:], [275, 274] + [84] * 274)
+        self.assertEqual(len(told), 2 + sum(6 + 2 + n for n in range(1, 275)))
 
     def test_most_calls(self):
         self.assertEqual(answers([0, 10, 20, 3] * 1100), [1, 0] * 1100)

@@ -17,6 +17,10 @@ BUILT_IN = """len range enumerate zip min max sum abs sorted reversed int str bo
     ord repr any all divmod Exception ValueError TypeError KeyError IndexError LookupError ZeroDivisionError
     ArithmeticError OverflowError RuntimeError NotImplementedError AttributeError StopIteration""".split()
 
+METHODS = """append clear copy count endswith extend find get index insert isalnum isalpha isdigit islower isspace isupper
+    items join keys ljust lower lstrip partition pop remove replace reverse rfind rjust rpartition rsplit rstrip
+    setdefault split splitlines startswith strip update upper values zfill bit_length""".split()
+
 WORDS_OUT = re.compile(r"\b(type|typing|typing_extensions|enum|Enum|IntEnum|StrEnum|Flag|IntFlag|Generic|Protocol|ABC"
                        r"|ABCMeta|namedtuple|NamedTuple|TypedDict|TYPE_CHECKING|abstractmethod)\b"
                        r"|dataclass|overload|contextmanager")
@@ -82,6 +86,33 @@ class Language(unittest.TestCase):
             self.assertEqual(read - bound - set(BUILT_IN), set(), path.name)
             for word in bound - {"__init__"}:
                 self.assertRegex(word, r"^[A-Za-z][A-Za-z0-9_]*$")
+
+    def test_methods_and_values_of_objects(self):
+        methods = {part.name for name, node in nodes() if isinstance(node, ast.ClassDef)
+                   for part in node.body if isinstance(part, ast.FunctionDef)} - {"__init__"}
+        values = {node.attr for name, node in nodes()
+                  if isinstance(node, ast.Attribute) and isinstance(node.ctx, ast.Store)}
+        self.assertEqual(methods & values, set())
+        for word in methods | values:
+            self.assertRegex(word, r"^[A-Za-z][A-Za-z0-9_]*$")
+            self.assertFalse(any(hasattr(kind, word) for kind in (str, int, list, tuple, dict, set, bytes)), word)
+        read = {node.attr for name, node in nodes() if isinstance(node, ast.Attribute)}
+        self.assertEqual(read - methods - values - set(METHODS), set())
+
+    def test_classes_hold_methods_alone(self):
+        for name, node in nodes():
+            if isinstance(node, ast.ClassDef):
+                self.assertEqual([part for part in node.body if not isinstance(part, ast.FunctionDef)], [], node.name)
+
+    def test_small_forms(self):
+        for name, node in nodes():
+            self.assertNotIsInstance(node, (ast.Is, ast.IsNot, ast.Set), name)
+            if isinstance(node, ast.ListComp):
+                self.assertEqual(len(node.generators), 1, name)
+                self.assertLessEqual(len(node.generators[0].ifs), 1, name)
+            if isinstance(node, ast.Assign):
+                self.assertEqual(len(node.targets), 1, name)
+                self.assertIsInstance(node.targets[0], (ast.Name, ast.Attribute, ast.Subscript), name)
 
 
 if __name__ == "__main__":

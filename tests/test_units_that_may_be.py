@@ -1,10 +1,8 @@
 """How many units may be, as down and up answer it."""
 
-import random
 import unittest
 
-from handkey.fitting import left_by_held_key
-from tests.helper import LATEST, SlowKey, TOO_LATE, ask, ask_last, begin, down, turns, up
+from tests.helper import LATEST, TOO_LATE, ask, ask_last, begin, down, turns, up
 
 UNITS_AND_SLACKS = ((1, 0), (2, 0), (2, 1), (10, 0), (10, 3), (10, 9), (333, 100), (4096, 0), (4096, 4095))
 
@@ -94,57 +92,6 @@ class WidestRange(unittest.TestCase):
     def test_most_units_left(self):
         told = ask([begin(2048, 4096, 2047)] + turns([4095, 28672] * 512) + [up(LATEST)])
         self.assertEqual(told, [0, 2049] + [2049] * 1024 + [-28])
-
-
-class KeyHeldDown(unittest.TestCase):
-    def test_no_longer_than_three_units_and_slack(self):
-        self.assertEqual(left_by_held_key([10, 11, 12], 0, 2), [10, 11, 12])
-        self.assertEqual(left_by_held_key([10, 11, 12], 32, 2), [10, 11, 12])
-        self.assertEqual(left_by_held_key([10, 11, 12], 33, 2), [11, 12])
-        self.assertEqual(left_by_held_key([10, 11, 12], 38, 2), [12])
-        self.assertEqual(left_by_held_key([10, 11, 12], 39, 2), [])
-
-
-class LikeTheSlowReading(unittest.TestCase):
-    """Lines of calls by a fixed seed, answered as the words alone would have it."""
-
-    def test_many_lines(self):
-        source = random.Random(40)
-        for number in range(400):
-            line = random_line(source)
-            slow = SlowKey()
-            with self.subTest(number=number, line=line):
-                self.assertEqual(ask(line), [slow.answer(call) for call in line])
-
-
-def random_range(source):
-    lo = source.choice((1, 2, 9, 10, 50, source.randint(1, 120)))
-    return lo, lo + source.choice((0, 1, 5, 2 * lo, 40)), source.choice((0, lo - 1, lo // 3))
-
-
-def random_line(source):
-    lo, hi, e = random_range(source)
-    line, t, unit, is_down = [begin(lo, hi, e)], source.choice((0, 5)), source.randint(lo, hi), False
-    for place in range(source.randint(1, 30)):
-        odd = source.random()
-        if odd < 0.03:
-            lo, hi, e = random_range(source)
-            line, t, unit, is_down = line + [begin(lo, hi, e)], 0, source.randint(lo, hi), False
-        elif odd < 0.06:
-            line.append(begin(lo, hi, lo))
-        elif odd < 0.25:
-            near = source.choice((t - 1, t, t + 1, 0, LATEST, TOO_LATE))
-            line.append((down if is_down else up)(max(near, 0)))
-        elif odd < 0.35:
-            near = source.choice((t - 1, 0, TOO_LATE))
-            line.append((up if is_down else down)(near if near == TOO_LATE or 0 <= near < t else TOO_LATE))
-        else:
-            count = source.choice((1, 3) if is_down else (1, 3, 7, 12))
-            off = source.choice((-e, e, source.randint(-e, e), source.randint(-e - 1, e + 1)))
-            t += max(count * unit + off, 1)
-            is_down = not is_down
-            line.append((down if is_down else up)(t))
-    return line
 
 
 if __name__ == "__main__":
